@@ -1,0 +1,1 @@
+"""Manymakers: numbers that are given by many makers."""

@@ -1,0 +1,11 @@
+"""What several files ask of the values that they are handed."""
+
+
+def is_integer(value):
+    """Tell whether a value is an integer; a boolean is not one here."""
+    return isinstance(value, int) and not isinstance(value, bool)
+
+
+def is_between(value, low, high):
+    """Tell whether a value is an integer from low to high."""
+    return is_integer(value) and low <= value <= high
