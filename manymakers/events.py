@@ -85,23 +85,36 @@ def _can_jump(setup, present, reading):
 def step(setup, standing, event):
     """Return what after returns, for a standing and an event that can be."""
     maker = event[1]
-    reading, last, counter, saved = standing[maker]
+    state, number = step_alone(setup, standing[maker], event)
+    return with_state(standing, maker, state), number
+
+
+def with_state(standing, maker, state):
+    """Return a standing with another tuple for one of the makers."""
+    return standing[:maker] + (state,) + standing[maker + 1:]
+
+
+def events_alone(setup, maker, state):
+    """Return the ascending list of a maker's events that can be, by its own tuple of a standing."""
+    readings = [reading for reading in range(setup.top + 1) if _can_jump(setup, state[0], reading)]
+    return [("clock", maker, reading) for reading in readings] + [("give", maker), ("restart", maker)]
+
+
+def step_alone(setup, state, event):
+    """Return a maker's tuple of the standing behind its event, which can be, and the number given, or None."""
+    maker = event[1]
+    reading, last, counter, saved = state
     if event[0] == "clock":
-        return _with_state(standing, maker, (event[2], last, counter, saved)), None
+        return (event[2], last, counter, saved), None
     if event[0] == "restart":
-        return _with_state(standing, maker, _restarted(setup, maker, reading, saved)), None
-    told = _told(setup, setup.plans[maker], standing[maker])
+        return _restarted(setup, maker, reading, saved), None
+    told = _told(setup, setup.plans[maker], state)
     if told is None:
-        return standing, None
+        return state, None
     told_reading, told_counter = told
     if setup.plans[maker].on_restart != "forget":
         saved = told_reading
-    state = (reading, told_reading, told_counter, saved)
-    return _with_state(standing, maker, state), (told_reading, setup.marks[maker], told_counter)
-
-
-def _with_state(standing, maker, state):
-    return standing[:maker] + (state,) + standing[maker + 1:]
+    return (reading, told_reading, told_counter, saved), (told_reading, setup.marks[maker], told_counter)
 
 
 def _restarted(setup, maker, reading, saved):

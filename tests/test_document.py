@@ -21,6 +21,62 @@ EVENTS_WRONG = '''
 raises InvalidHistory(index=1)
 '''
 
+WAYS = '''
+>>> from manymakers.setups import Plan, Setup
+>>> from manymakers.ways import number_way, series_way, standings, way_to
+>>> setup = Setup((Plan("refuse", "refuse", "wait"),), (0,), 1, 0, 1, 1)
+>>> told = [len(standings(setup)), way_to(setup, ((1, -1, 0, 0),)), number_way(setup, (1, 0, 0))]
+>>> told + [series_way(setup, [(0, 0, 0), (1, 0, 0)]), series_way(setup, [(1, 0, 0), (0, 0, 0)])]
+[10, [('give', 0), ('clock', 0, 1), ('restart', 0)], [('clock', 0, 1), ('give', 0)], [('give', 0), ('clock', 0, 1), ('give', 0)], None]
+'''
+
+WAYS_WRONG = '''
+>>> from manymakers.setups import Plan, Setup
+>>> from manymakers.ways import number_way
+>>> number_way(Setup((Plan("trust", "wrap", "forget"),), (0,), 1, 1, 1, 1), (1, 0))
+raises InvalidNumber()
+'''
+
+CLASHES = '''
+>>> from manymakers.clashes import clash, disorder, most_numbers, safe_plans
+>>> from manymakers.setups import Plan, Setup
+>>> careful = Plan("refuse", "refuse", "wait")
+>>> plain, alone = Setup((Plan("trust", "wrap", "forget"),), (0,), 1, 1, 1, 1), Setup((careful,), (0,), 1, 0, 1, 1)
+>>> both, safe = Setup((careful, careful), (1, 1), 1, 0, 1, 1), safe_plans(1, 1, 1, 1)
+>>> told = [clash(plain), disorder(plain), clash(alone), disorder(alone), clash(both)]
+>>> told + [most_numbers(plain), most_numbers(alone), ("refuse", "refuse", "wait") in safe, ("trust", "refuse", "wait") in safe]
+[[('give', 0), ('give', 0), ('give', 0)], [('give', 0), ('give', 0), ('give', 0)], None, None, [('give', 0), ('give', 1)], 4, 2, True, False]
+'''
+
+COUNTS = '''
+>>> from manymakers.clashes import history_count, parting
+>>> from manymakers.setups import Plan, Setup
+>>> alone = Setup((Plan("refuse", "refuse", "wait"),), (0,), 1, 0, 1, 1)
+>>> other = Setup((Plan("refuse", "borrow", "wait"),), (0,), 1, 0, 1, 1)
+>>> [parting(alone, other), [history_count(alone, 2, given) for given in (0, 1, 2)], parting(alone, alone)]
+[[('give', 0), ('give', 0)], [4, 5, 0], None]
+'''
+
+COUNTS_WRONG = '''
+>>> from manymakers.clashes import history_count
+>>> from manymakers.setups import Plan, Setup
+>>> history_count(Setup((Plan("trust", "wrap", "forget"),), (0,), 1, 1, 1, 1), 31, 0)
+raises InvalidCount()
+'''
+
+LENDING = '''
+>>> from manymakers.lending import fewest_marks, holders, lent, shortest_length
+>>> asks = ((0, 5), (3, 6), (5, 7), (10, 5), (10, 7))
+>>> [lent(2, 10, asks), holders(2, 10, asks, 12), fewest_marks(10, asks), shortest_length(2, asks)]
+[[0, 1, None, 0, None], [(0, 5), (1, 6)], 3, 6]
+'''
+
+LENDING_WRONG = '''
+>>> from manymakers.lending import lent
+>>> lent(2, 10, ((5, 1), (4, 1)))
+raises InvalidAsks(index=1)
+'''
+
 
 class Examples(unittest.TestCase):
     def check(self, text):
@@ -30,3 +86,16 @@ class Examples(unittest.TestCase):
     def test_events(self):
         self.check(EVENTS)
         self.check(EVENTS_WRONG)
+
+    def test_ways(self):
+        self.check(WAYS)
+        self.check(WAYS_WRONG)
+
+    def test_clashes(self):
+        self.check(CLASHES)
+        self.check(COUNTS)
+        self.check(COUNTS_WRONG)
+
+    def test_lending(self):
+        self.check(LENDING)
+        self.check(LENDING_WRONG)
