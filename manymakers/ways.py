@@ -42,19 +42,7 @@ def number_way(setup, number):
 def series_way(setup, numbers):
     """Return the shortest history in which just these numbers are given, None if there is none."""
     check_series(numbers)
-    tables = {maker: maker_steps(setup, maker) for maker in range(len(setup))}
-
-    def moves(node):
-        standing, many = node
-        found = []
-        for event, behind, number in steps_from(tables, standing):
-            if number is None:
-                found.append((event, (behind, many)))
-            elif number == numbers[many]:
-                found.append((event, (behind, many + 1)))
-        return found
-
-    return shortest_way((begin(setup), 0), moves, lambda node: node[1] == len(numbers))
+    return told_way(setup, numbers, number_told)
 
 
 def check_series(numbers):
@@ -78,6 +66,11 @@ def maker_steps(setup, maker):
             steps[state] = [(event, *step_alone(setup, state, event)) for event in events]
             waiting.extend([behind for _, behind, number in steps[state]])
     return steps
+
+
+def all_steps(setup):
+    """Return a dict with the table of maker_steps for each maker."""
+    return {maker: maker_steps(setup, maker) for maker in range(len(setup))}
 
 
 def steps_from(tables, standing):
@@ -122,6 +115,32 @@ def _way_back(came_by, node):
         node, event = came_by[node]
         way.append(event)
     return way[::-1]
+
+
+def number_told(_, number):
+    """Return what somebody is told of a step who sees numbers only: the number, None if there is none."""
+    return number
+
+
+def told_way(setup, told, tell):
+    """Return the shortest history of which just this list is told, of several the first in list order, None if none.
+
+    What is told of an event, and of the number that it gave or None, is tell(event, number), None for nothing.
+    """
+    tables = all_steps(setup)
+
+    def moves(node):
+        standing, many = node
+        found = []
+        for event, behind, number in steps_from(tables, standing):
+            word = tell(event, number)
+            if word is None:
+                found.append((event, (behind, many)))
+            elif word == told[many]:
+                found.append((event, (behind, many + 1)))
+        return found
+
+    return shortest_way((begin(setup), 0), moves, lambda node: node[1] == len(told))
 
 
 def first_way(ways):

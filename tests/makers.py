@@ -1,4 +1,4 @@
-"""Set-ups for the tests, and the plans of which there are 27."""
+"""Set-ups for the tests, the plans of which there are 27, and what is no number."""
 
 from itertools import product
 
@@ -8,6 +8,11 @@ BACK = ("trust", "hold", "refuse")
 FULL = ("wrap", "borrow", "refuse")
 RESTART = ("forget", "saved", "wait")
 ALL_WORDS = tuple(product(BACK, FULL, RESTART))
+NO_NUMBERS = (
+    (), (0,), (0, 0), (0, 0, 0, 0), [0, 0, 0], "000", b"\x00\x00\x00", None, 0, 7, True, {},
+    (-1, 0, 0), (0, -1, 0), (0, 0, -1), (True, 0, 0), (0, True, 0), (0, 0, True), (False, 0, 0), (0, 0, False),
+    (None, 0, 0), (0, None, 0), (0, 0, None), ("0", 0, 0), (0, "", 0), (0, 0, (0,)), (0, (), 0), ((0, 0, 0),),
+)
 
 
 def one_maker(words, top=2, limit=1, back=2, ahead=2, mark=3):

@@ -128,21 +128,68 @@ def plain_disorder(setup):
     return first(ways(start, moves), lambda node: not node[2])
 
 
-def plain_series_way(setup, numbers):
-    """Return what series_way returns, by a search over all standings and how many numbers were given."""
+def number_told(event, number):
+    """Tell of a step what somebody is told who sees all numbers, and nothing else."""
+    return number
+
+
+def entry_told(event, number):
+    """Tell of a step what is in a log of all that makers gave when they were told to."""
+    return (event[1], number) if event[0] == "give" else None
+
+
+def ways_telling(setup, told, tell):
+    """Return ways to all nodes (standing, how many of these were told, the maker of each), just these being told."""
     steps = Steps(setup)
 
     def moves(node):
-        standing, many = node
+        standing, makers = node
         found = []
         for event, behind, number in steps.behind(standing):
-            if number is None:
-                found.append((event, (behind, many)))
-            elif many < len(numbers) and number == numbers[many]:
-                found.append((event, (behind, many + 1)))
+            word = tell(event, number)
+            if word is None:
+                found.append((event, (behind, makers)))
+            elif len(makers) < len(told) and word == told[len(makers)]:
+                found.append((event, (behind, makers + (event[1],))))
         return found
 
-    return first(ways((begin(setup), 0), moves), lambda node: node[1] == len(numbers))
+    return ways((begin(setup), ()), moves)
+
+
+def plain_series_way(setup, numbers):
+    """Return what series_way returns, by a search over all standings and who gave the numbers."""
+    return first(ways_telling(setup, numbers, number_told), lambda node: len(node[1]) == len(numbers))
+
+
+def plain_log_way(setup, log):
+    """Return what log_way returns, by a search over all standings and how much of the log was given."""
+    return first(ways_telling(setup, log, entry_told), lambda node: len(node[1]) == len(log))
+
+
+def plain_first_wrong(setup, log):
+    """Return what first_wrong returns, by asking for a history of each beginning of the log."""
+    for at in range(len(log)):
+        if plain_log_way(setup, log[:at + 1]) is None:
+            return at
+    return None
+
+
+def plain_ends_behind(setup, numbers):
+    """Return what ends_behind returns, by one step with the last number from wherever the others were given."""
+    if not numbers:
+        return [begin(setup)]
+    steps = Steps(setup)
+    found = set()
+    for standing, makers in ways_telling(setup, numbers[:-1], number_told):
+        if len(makers) == len(numbers) - 1:
+            found |= {behind for _, behind, number in steps.behind(standing) if number == numbers[-1]}
+    return sorted(found)
+
+
+def plain_givers(setup, numbers):
+    """Return what givers returns, from all rows of makers by which all of the numbers were given."""
+    rows = {makers for _, makers in ways_telling(setup, numbers, number_told) if len(makers) == len(numbers)}
+    return [tuple(sorted({makers[at] for makers in rows})) for at in range(len(numbers))]
 
 
 def plain_number_ways(setup):
@@ -204,3 +251,20 @@ def plain_lending(count, length, asks):
                 marks.append(mark)
         ticks.append(dict(owners))
     return marks, ticks
+
+
+def plain_house(setup, operations):
+    """Return how a house is behind some operations in effect: its standing, what was given, and what is kept.
+
+    What was given is a tuple of (maker, number); what is kept is a dict {name: (standing, what was given)}.
+    """
+    standing, given, kept = begin(setup), (), {}
+    for operation in operations:
+        if operation[0] == "keep_as":
+            kept[operation[1]] = (standing, given)
+        elif operation[0] == "fetch":
+            standing, given = kept[operation[1]]
+        else:
+            standing, number = after(setup, standing, operation)
+            given += () if number is None else ((operation[1], number),)
+    return standing, given, kept

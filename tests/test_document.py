@@ -77,6 +77,53 @@ LENDING_WRONG = '''
 raises InvalidAsks(index=1)
 '''
 
+TELLING = r'''
+>>> from manymakers.telling import ends_behind, first_wrong, givers, log_way
+>>> from manymakers.setups import Plan, Setup
+>>> one = Setup((Plan("trust", "wrap", "forget"),), (1,), 2, 1, 2, 2)
+>>> numbers = [(0, 1, 0), (0, 1, 1)]
+>>> [ends_behind(one, numbers), givers(one, numbers), log_way(one, [(0, (1, 1, 0))]), first_wrong(one, [(0, None)])]
+[[((0, 0, 1, -1),)], [(0,), (0,)], [('clock', 0, 1), ('give', 0)], 0]
+'''
+
+TELLING_WRONG = r'''
+>>> from manymakers.telling import log_way
+>>> from manymakers.setups import Plan, Setup
+>>> one = Setup((Plan("trust", "wrap", "forget"),), (1,), 2, 1, 2, 2)
+>>> log_way(one, [(1, None)])
+raises InvalidLog(index=0)
+'''
+
+PACKING = r'''
+>>> from manymakers.packing import packed, unpacked
+>>> [packed((5, 1, 2), 4, 3), unpacked(650, 4, 3)]
+[650, (5, 1, 2)]
+'''
+
+PACKING_WRONG = r'''
+>>> from manymakers.packing import packed
+>>> packed((5, 1, 2), 0, 3)
+raises InvalidNumber()
+'''
+
+HOUSES = r'''
+>>> from manymakers.houses import House
+>>> from manymakers.setups import Plan, Setup
+>>> one = Setup((Plan("trust", "wrap", "forget"),), (1,), 2, 1, 2, 2)
+>>> house = House(one)
+>>> found = house.apply_all([("give", 0), ("clock", 0, 2), ("restart", 0), ("give", 0), ("clock", 0, 0)])
+>>> [found, house.has_clash, house.is_orderly, house.give(0), house.has_clash, house.is_orderly, house.undo()]
+[[(0, 1, 0), 2, False, (2, 1, 0), -2], False, True, (0, 1, 0), True, False, True]
+'''
+
+HOUSES_WRONG = r'''
+>>> from manymakers.houses import House
+>>> from manymakers.setups import Plan, Setup
+>>> one = Setup((Plan("trust", "wrap", "forget"),), (1,), 2, 1, 2, 2)
+>>> House(one).clock(0, 0)
+raises InvalidEvent()
+'''
+
 
 class Examples(unittest.TestCase):
     def check(self, text):
@@ -99,3 +146,15 @@ class Examples(unittest.TestCase):
     def test_lending(self):
         self.check(LENDING)
         self.check(LENDING_WRONG)
+
+    def test_telling(self):
+        self.check(TELLING)
+        self.check(TELLING_WRONG)
+
+    def test_packing(self):
+        self.check(PACKING)
+        self.check(PACKING_WRONG)
+
+    def test_houses(self):
+        self.check(HOUSES)
+        self.check(HOUSES_WRONG)

@@ -7,7 +7,7 @@ from manymakers.errors import InvalidNumber, InvalidSeries, InvalidStanding
 from manymakers.events import begin, run
 from manymakers.ways import number_way, series_way, standings, way_to
 from tests import plain
-from tests.makers import ALL_WORDS, one_maker, states, two_makers
+from tests.makers import ALL_WORDS, NO_NUMBERS, one_maker, states, two_makers
 
 PLAIN = ("trust", "wrap", "forget")
 CAREFUL = ("refuse", "refuse", "wait")
@@ -22,11 +22,6 @@ PAIRS = [
     (("refuse", "wrap", "saved"), ("trust", "borrow", "wait")),
 ]
 SMALL = {"top": 1, "limit": 0, "back": 1, "ahead": 1}
-NO_NUMBERS = (
-    (), (0,), (0, 0), (0, 0, 0, 0), [0, 0, 0], "000", b"\x00\x00\x00", None, 0, 7, True, {},
-    (-1, 0, 0), (0, -1, 0), (0, 0, -1), (True, 0, 0), (0, True, 0), (0, 0, True), (False, 0, 0), (0, 0, False),
-    (None, 0, 0), (0, None, 0), (0, 0, None), ("0", 0, 0), (0, "", 0), (0, 0, (0,)), (0, (), 0), ((0, 0, 0),),
-)
 
 
 class Interface(unittest.TestCase):
