@@ -124,6 +124,74 @@ HOUSES_WRONG = r'''
 raises InvalidEvent()
 '''
 
+WATCHING = r'''
+>>> from manymakers.watching import Watcher
+>>> from manymakers.setups import Plan, Setup
+>>> one = Setup((Plan("trust", "wrap", "forget"),), (1,), 2, 1, 2, 2)
+>>> watcher = Watcher(one)
+>>> found = [watcher.next_numbers(), watcher.seen((2, 1, 0)), watcher.sure_giver(), watcher.sure_parts()]
+>>> found + [watcher.standings_left, watcher.told_so_far]
+[[(0, 1, 0), (1, 1, 0), (2, 1, 0)], 1, 0, ((2, 2, 0, -1),), [((2, 2, 0, -1),)], [(2, 1, 0)]]
+'''
+
+WATCHING_WRONG = r'''
+>>> from manymakers.watching import Watcher
+>>> from manymakers.setups import Plan, Setup
+>>> one = Setup((Plan("trust", "wrap", "forget"),), (1,), 2, 1, 2, 2)
+>>> Watcher(one).seen((0, 0, 0))
+raises NoHistory()
+'''
+
+NOTATION = r'''
+>>> from manymakers.notation import history_text, number_text, read_history, standing_text
+>>> from manymakers.setups import Plan, Setup
+>>> one = Setup((Plan("trust", "wrap", "forget"),), (1,), 2, 1, 2, 2)
+>>> events = [("clock", 0, 2), ("give", 0)]
+>>> found = [history_text(events), read_history(one, history_text(events)) == events]
+>>> found + [number_text((2, 1, 0)), number_text(None), standing_text(one, ((2, -1, 0, -1),))]
+['clock 0 2\ngive 0', True, '2.1.0', 'none', '2 - 0 -']
+'''
+
+NOTATION_WRONG = r'''
+>>> from manymakers.notation import read_history
+>>> from manymakers.setups import Plan, Setup
+>>> one = Setup((Plan("trust", "wrap", "forget"),), (1,), 2, 1, 2, 2)
+>>> read_history(one, "clock 0")
+raises InvalidLine(row=0, word=2)
+'''
+
+CODEC = r'''
+>>> from manymakers.codec import decode_setup, encode_setup
+>>> from manymakers.setups import Plan, Setup
+>>> one = Setup((Plan("trust", "wrap", "forget"),), (1,), 2, 1, 2, 2)
+>>> [encode_setup(one), decode_setup(encode_setup(one)) == one]
+[[127, 1, 0, 0, 0, 1, 2, 1, 2, 2, 8], True]
+'''
+
+CODEC_WRONG = r'''
+>>> from manymakers.codec import decode_setup
+>>> decode_setup([127, 3])
+raises DecodeError(offset=1)
+'''
+
+SCRIPTS = r'''
+>>> from manymakers.scripts import run_script
+>>> from manymakers.setups import Plan, Setup
+>>> one = Setup((Plan("trust", "wrap", "forget"),), (1,), 2, 1, 2, 2)
+>>> lines = ["give 0", "clock 0 2", "when 0 2", "give 0", "end", "repeat 2", "give 0", "end", "count"]
+>>> house, output = run_script(one, "\n".join(lines))
+>>> [output, house.has_clash, len(house.history)]
+[['0.1.0', '2.1.0', '2.1.1', '2.1.0', '4'], True, 5]
+'''
+
+SCRIPTS_WRONG = r'''
+>>> from manymakers.scripts import run_script
+>>> from manymakers.setups import Plan, Setup
+>>> one = Setup((Plan("trust", "wrap", "forget"),), (1,), 2, 1, 2, 2)
+>>> run_script(one, "clock 0 0")
+raises ExecutionFailed(row=0)
+'''
+
 
 class Examples(unittest.TestCase):
     def check(self, text):
@@ -158,3 +226,19 @@ class Examples(unittest.TestCase):
     def test_houses(self):
         self.check(HOUSES)
         self.check(HOUSES_WRONG)
+
+    def test_watching(self):
+        self.check(WATCHING)
+        self.check(WATCHING_WRONG)
+
+    def test_notation(self):
+        self.check(NOTATION)
+        self.check(NOTATION_WRONG)
+
+    def test_codec(self):
+        self.check(CODEC)
+        self.check(CODEC_WRONG)
+
+    def test_scripts(self):
+        self.check(SCRIPTS)
+        self.check(SCRIPTS_WRONG)

@@ -175,6 +175,10 @@ class Givers(unittest.TestCase):
         self.assertEqual(givers(setup, [(1, 1, 0), (0, 1, 0), (1, 1, 0)]), [(0, 1)] * 3)
         setup = two_makers(CAREFUL, CAREFUL, (1, 1), limit=0)
         self.assertEqual(givers(setup, [(1, 1, 0), (0, 1, 0)]), [(0, 1)] * 2)
+        # Neither of these gives anything lower, and only the second one gives the same again.
+        setup = two_makers(("hold", "refuse", "wait"), ("hold", "wrap", "wait"), (1, 1), limit=0)
+        self.assertEqual(givers(setup, [(1, 1, 0), (0, 1, 0), (0, 1, 0)]), [(0,), (1,), (1,)])
+        self.assertEqual(givers(setup, [(1, 1, 0), (1, 1, 0), (0, 1, 0)]), [(1,), (1,), (0,)])
 
     def test_what_comes_later_tells_who_gave_an_earlier_one(self):
         # The counter 1 follows the counter 0 of the same reading, so one gave these, and the other the one in between.
